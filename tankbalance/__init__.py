@@ -1,0 +1,1 @@
+"""What unmeasured streams between tanks must have been, and which meters lie."""
