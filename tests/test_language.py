@@ -1,6 +1,7 @@
 """The rules of LANGUAGE.md that a walk over the package's files can see.
 
-What needs judgement (L11, L15, L18, L19, L23, L24, L26, L28) is held by reading, not here.
+Of L15, L16, L18, L22, L23 and L24 the greater part is held here; what needs judgement there, and L11, L19, L26 and
+L28, is held by reading.
 """
 
 import ast
@@ -34,6 +35,14 @@ WORDS = re.compile(
     r"|namedtuple|NamedTuple|TypedDict|TYPE_CHECKING|abstractmethod)\b|dataclass|overload|contextmanager"
 )
 BANNED_NAMES = set("register mro elements open input version_info with_traceback add_note format format_map".split())
+
+WALKED_NAMES = set("zip enumerate reversed range".split())
+WALKED_METHODS = set("items keys values".split())
+WALKERS = set("list tuple dict sorted sum any all enumerate zip min max".split())
+KEYWORDS = {
+    "sorted": {"key", "reverse"}, "min": {"key", "default"}, "max": {"key", "default"}, "sum": {"start"},
+    "enumerate": {"start"}, "zip": {"strict"},
+}
 
 
 def faults_of_text(text):
@@ -122,8 +131,60 @@ def faults_of_expression(node):
     return []
 
 
-def faults_of_code(text, own_methods=()):
+def called_name(node):
+    if not isinstance(node, ast.Call):
+        return None
+    return node.func.id if isinstance(node.func, ast.Name) else getattr(node.func, "attr", None)
+
+
+def walked_at_once(node, above):
+    if isinstance(above, (ast.For, ast.comprehension)):
+        return above.iter is node
+    if called_name(above) in ("min", "max"):
+        return len(above.args) == 1
+    return called_name(above) in WALKERS | {"join"} and above.args[:1] == [node]
+
+
+def set_on_the_spot(node, above):
+    if isinstance(above, ast.BinOp):
+        return isinstance(above.op, (ast.Sub, ast.BitAnd, ast.BitOr, ast.BitXor))
+    if isinstance(above, ast.Compare):
+        return all(isinstance(sign, (ast.In, ast.NotIn, ast.Eq, ast.NotEq)) for sign in above.ops)
+    return called_name(above) in ("sorted", "len") and not above.keywords
+
+
+def faults_of_calls(node, above):
+    name = called_name(node)
     faults = []
+    if name in (WALKED_METHODS if isinstance(getattr(node, "func", None), ast.Attribute) else WALKED_NAMES):
+        if not walked_at_once(node, above):
+            faults.append(f"L23 {name} is kept")
+    if isinstance(node, ast.Set) or name in ("set", "frozenset"):
+        if not set_on_the_spot(node, above):
+            faults.append("L24 set is kept")
+    if name in OWN_NAMES | OWN_METHODS:
+        if any(keyword.arg not in KEYWORDS.get(name, ()) for keyword in node.keywords):
+            faults.append(f"L22 keyword at {name}")
+    return faults
+
+
+def faults_of_tree(tree):
+    """What shows only beside other parts of the same file."""
+    faults = []
+    taken = [node.name for node in ast.walk(tree) if isinstance(node, ast.ClassDef)]
+    for node in ast.walk(tree):
+        if isinstance(node, ast.ImportFrom):
+            taken += [part.asname or part.name for part in node.names]
+    for above in ast.walk(tree):
+        for node in ast.iter_child_nodes(above):
+            if isinstance(node, (ast.Name, ast.arg)) and bound_name(node) in taken:
+                faults.append(f"L15 local {bound_name(node)} (line {node.lineno})")
+            faults += [f"{fault} (line {node.lineno})" for fault in faults_of_calls(node, above)]
+    return faults
+
+
+def faults_of_code(text, own_methods=()):
+    faults = faults_of_tree(ast.parse(text))
     for node in ast.walk(ast.parse(text)):
         found = [] if type(node).__name__ in NODES else [f"L6 or L7 {type(node).__name__}"]
         if isinstance(node, ast.ImportFrom):
@@ -142,6 +203,22 @@ def methods_of(texts):
     trees = [ast.parse(text) for text in texts]
     classes = [node for tree in trees for node in ast.walk(tree) if isinstance(node, ast.ClassDef)]
     return {part.name for node in classes for part in node.body if isinstance(part, ast.FunctionDef)}
+
+
+def values_of(texts):
+    nodes = [node for text in texts for node in ast.walk(ast.parse(text))]
+    return {node.attr for node in nodes if isinstance(node, ast.Attribute) and isinstance(node.ctx, ast.Store)}
+
+
+def defined_in(text):
+    """The names that a file's top defines itself."""
+    names = set()
+    for node in ast.parse(text).body:
+        if isinstance(node, (ast.FunctionDef, ast.ClassDef)):
+            names.add(node.name)
+        if isinstance(node, ast.Assign):
+            names.add(node.targets[0].id)
+    return names
 
 
 def drawn_from(text):
@@ -165,6 +242,17 @@ class LanguageTest(unittest.TestCase):
             with self.subTest(file=name):
                 self.assertEqual(faults_of_text(text) + faults_of_code(text, own_methods), [])
 
+    def test_no_name_is_a_method_and_a_value(self):
+        texts = self.texts.values()
+        self.assertEqual(methods_of(texts) & values_of(texts), set())
+
+    def test_names_are_drawn_from_the_file_that_defines_them(self):
+        for name, text in self.texts.items():
+            for node in ast.walk(ast.parse(text)):
+                if isinstance(node, ast.ImportFrom):
+                    defined = defined_in(self.texts[node.module.split(".")[-1]])
+                    self.assertEqual({part.name for part in node.names} - defined, set(), name)
+
     def test_no_two_files_draw_from_one_another(self):
         draws = {name: set(drawn_from(text)) for name, text in self.texts.items()}
         for step in range(len(draws)):
@@ -179,11 +267,22 @@ class LanguageTest(unittest.TestCase):
             "def f(*a):\n    pass", "def f(_a):\n    pass", "def f(sum):\n    pass", "a = b = 1", "x = {1: 2 for y in z}",
             "x = [a for b in c for a in b]", "x = (a for a in b)", "if x is y:\n    pass", "x.sort()", "map(f, x)",
             "class A:\n    x = 1", "for a in b:\n    pass\nelse:\n    pass", "with a:\n    pass", "assert x", "x.y == 1",
-            "try:\n    pass\nfinally:\n    pass", "def f():\n    yield 1", "def f():\n" + "    f()\n" * 40,
+            "try:\n    pass\nfinally:\n    pass", "def f():\n    yield 1", "x = range(3)", "x = d.items()",
+            "f(reversed(x))", "min(zip(a, b), 3)", "x = set(y)", "for a in set(b):\n    f(a)", "x = {1, 2}",
+            "sorted(set(x), key=f)", "x = int(y, base=2)", "class A:\n    pass\ndef f(A):\n    pass",
+            "from tankbalance.ties import path_of\ndef f():\n    path_of = 1", "def f():\n" + "    f()\n" * 40,
         )
         for text in wrong:
             with self.subTest(text=text):
                 self.assertNotEqual(faults_of_code(text), [])
+        right = (
+            "x = tuple(reversed(y))", "x = [a for a in range(3)]", "for a, b in d.items():\n    f(a)",
+            "x = sorted(d.items())", "x = a in set(b)", "x = len(set(a) - set(b))", "x = sorted(set(a))",
+            "x = sorted(a, key=f, reverse=True)", "x = set(a) == set(b)", "x = max(d.values())",
+        )
+        for text in right:
+            with self.subTest(text=text):
+                self.assertEqual(faults_of_code(text), [])
         for text in ("x" * 121, "a\tb", "caf\u00e9", "# a type", "# my_dataclass", "a\n" * 401):
             with self.subTest(text=text):
                 self.assertNotEqual(faults_of_text(text), [])

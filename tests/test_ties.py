@@ -4,18 +4,7 @@ import itertools
 import unittest
 
 from tankbalance.ties import bunches_of, path_of
-from tests.helper import answer_unchanged, assert_told, in_all_forms, small_nets
-
-
-def tied_pairs(places, streams):
-    """Which places are tied, by closing the relation: another way of reckoning than the program's."""
-    tied = {(place, place) for place in places}
-    for number, source, target in streams:
-        tied |= {(source, target), (target, source)}
-    for middle, one, other in itertools.product(places, repeat=3):
-        if (one, middle) in tied and (middle, other) in tied:
-            tied.add((one, other))
-    return tied
+from tests.helper import answer_unchanged, assert_told, assert_way, in_all_forms, small_nets, tied_pairs
 
 
 class BunchesTest(unittest.TestCase):
@@ -86,30 +75,13 @@ class BunchesTest(unittest.TestCase):
 
 
 class PathTest(unittest.TestCase):
-    def assert_way(self, streams, start, goal, way):
-        """Hold a way against every sentence of point 5."""
-        self.assertIs(type(way), tuple)
-        ends = {number: (source, target) for number, source, target in streams}
-        passed = [start]
-        for step in way:
-            self.assertIs(type(step), tuple)
-            self.assertEqual([type(part) for part in step], [int, int])
-            number, direction = step
-            self.assertIn(number, ends)
-            self.assertIn(direction, (1, -1))
-            first, last = ends[number][::direction]
-            self.assertEqual(passed[-1], first)
-            passed.append(last)
-        self.assertEqual(passed[-1], goal)
-        self.assertEqual(len(set(passed)), len(passed))
-
     def asked(self, streams, start, goal):
         """The ways told for the row as a list and as a tuple, each held against point 5."""
         ways = []
         for (row,) in in_all_forms(streams):
             way = answer_unchanged(self, path_of, row, start, goal)
             if way is not None:
-                self.assert_way(streams, start, goal, way)
+                assert_way(self, streams, start, goal, way)
             ways.append(way)
         return ways
 
@@ -184,7 +156,7 @@ class PathTest(unittest.TestCase):
                 way = path_of(streams, start, goal)
                 self.assertEqual(way is not None, (start, goal) in tied)
                 if way is not None:
-                    self.assert_way(streams, start, goal, way)
+                    assert_way(self, streams, start, goal, way)
 
 
 if __name__ == "__main__":
