@@ -1,7 +1,7 @@
 """The rules of LANGUAGE.md that a walk over the package's files can see.
 
-Of L15, L16, L18, L22, L23 and L24 the greater part is held here; what needs judgement there, and L11, L19, L26 and
-L28, is held by reading.
+Of L15, L16, L18, L22, L23 and L24 only some sentences are held here; the rest of them, and L11, L19, L26 and L28,
+are held by reading.
 """
 
 import ast
