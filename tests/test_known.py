@@ -8,7 +8,7 @@ from tankbalance.known import group_of, told_of
 from tankbalance.rings import ring_of
 from tankbalance.settle import setting_of
 from tests.helper import (
-    along, asked_of, assert_refused, assert_ring, assert_told, many_days, plain_brought, plain_clashes, plain_groups,
+    along, asked_of, assert_refused, assert_stream_told, assert_told, many_days, plain_clashes, plain_groups,
 )
 
 UNKNOWN = (0, -1, -5, 1, 4, 7, 60, 61, 2 ** 70, 10 ** 5000, -(10 ** 5000))
@@ -180,36 +180,6 @@ class ToldTest(unittest.TestCase):
             for number in UNKNOWN:
                 self.assert_told_refused(UnknownStream, day, number)
 
-    def assert_known(self, parts, number, told, settings):
-        tanks, streams, rises, readings = parts
-        state, amount, group, ring = told
-        self.assertEqual(ring, ())
-        self.assertIs(type(amount), int)
-        assert_told(self, group)
-        amounts = {**dict(readings), number: amount}
-        crossing = [stream for stream in streams if (stream[1] in group) != (stream[2] in group)]
-        self.assertTrue(all(stream[0] in amounts for stream in crossing))
-        self.assertEqual(plain_brought(crossing, amounts, group), sum(rises[tank - 1] for tank in group))
-        for setting in settings:
-            self.assertEqual(dict(setting)[number], amount)
-
-    def assert_stream_told(self, parts, day, number, settings):
-        told = asked_of(self, told_of, day, number)
-        self.assertIs(type(told), tuple)
-        readings = dict(parts[3])
-        groups = plain_groups(parts)
-        if number in readings:
-            self.assertEqual(told, ("metered", readings[number], (), ()))
-        elif groups[number]:
-            self.assertEqual(told[0], "known")
-            self.assertIn(told[2], groups[number])
-            self.assert_known(parts, number, told, settings)
-        else:
-            self.assertEqual(told[:3], ("open", None, ()))
-            self.assertEqual(len(told), 4)
-            assert_ring(self, parts, number, told[3])
-        return told[0]
-
     def test_many_days(self):
         seen = {"metered": 0, "known": 0, "open": 0, "refused": 0}
         for parts, day in many_days():
@@ -222,7 +192,8 @@ class ToldTest(unittest.TestCase):
             rings = [ring_of(day, stream[0]) for stream in parts[1]]
             settings = [setting] + [along(setting, ring, 77) for ring in rings]
             for number, source, target in parts[1]:
-                seen[self.assert_stream_told(parts, day, number, settings)] += 1
+                told = asked_of(self, told_of, day, number)
+                seen[assert_stream_told(self, parts, number, told, settings)] += 1
         self.assertGreater(min(seen.values()), 500)
 
 

@@ -1,13 +1,16 @@
 """The rules of LANGUAGE.md that a walk over the package's files can see.
 
-Of L15, L16, L18, L22, L23 and L24 only some sentences are held here; the rest of them, and L11, L19, L26 and L28,
-are held by reading.
+Some rules are held more narrowly than they are written: no list, dict or set stands at a file's top, no `try` takes
+an error of Python's own, no annotation is written, and of the methods with two underscores only `__init__`. How deep
+a recursion goes (L11) is held by reading.
 """
 
 import ast
 import builtins
+import io
 import pathlib
 import re
+import tokenize
 import unittest
 
 PACKAGE = pathlib.Path(__file__).resolve().parent.parent / "tankbalance"
@@ -35,6 +38,21 @@ WORDS = re.compile(
     r"|namedtuple|NamedTuple|TypedDict|TYPE_CHECKING|abstractmethod)\b|dataclass|overload|contextmanager"
 )
 BANNED_NAMES = set("register mro elements open input version_info with_traceback add_note format format_map".split())
+NOT_AS_NAMES = set(
+    "attrgetter breakpoint builtins compile copyright credits delattr dir eval exec exit gc getattr globals hasattr "
+    "help id importlib license locals methodcaller os quit setattr super type vars sys __name__".split()
+)
+FRAME_NAMES = re.compile(r"^(f|tb|co|gi|cr|ag)_[a-z]+$")
+FILE_NAMES_OUT = set(
+    "test tests testing site conftest sitecustomize usercustomize type typing typing_extensions enum namedtuple "
+    "abstractmethod dataclass overload contextmanager".split()
+)
+KEYS = set("len int str abs sum min max tuple".split())
+KINDS_ASKED = set("int str bool list tuple dict".split())
+CHANGING = set("append clear extend insert pop remove reverse setdefault update".split())
+VALUES_ALLOWED = set("count index title find get join lower upper split strip copy add".split())
+KINDS_OF_PYTHON = (str, int, list, tuple, dict, set, frozenset, bytes, ValueError)
+VALUES_OF_PYTHON = {name for kind in KINDS_OF_PYTHON for name in dir(kind)}
 
 WALKED_NAMES = set("zip enumerate reversed range".split())
 WALKED_METHODS = set("items keys values".split())
@@ -168,6 +186,162 @@ def faults_of_calls(node, above):
     return faults
 
 
+def plain_value(node):
+    """A written value that nothing can change: whole numbers, texts, True, False, None, and tuples of these."""
+    if isinstance(node, ast.Tuple):
+        return all(plain_value(part) for part in node.elts)
+    if isinstance(node, ast.UnaryOp) and isinstance(node.op, ast.USub):
+        return plain_value(node.operand)
+    return isinstance(node, ast.Constant) and isinstance(node.value, (int, str, type(None)))
+
+
+def faults_of_top(tree):
+    faults = []
+    bound = []
+    for at, node in enumerate(tree.body):
+        if isinstance(node, ast.Assign) and isinstance(node.targets[0], ast.Name):
+            bound.append(node.targets[0].id)
+            if not plain_value(node.value):
+                faults.append("L3 or L15 value at the top")
+        elif isinstance(node, (ast.FunctionDef, ast.ClassDef)):
+            bound.append(node.name)
+        elif isinstance(node, ast.ImportFrom):
+            bound += [part.asname or part.name for part in node.names]
+        elif not (at == 0 and isinstance(node, ast.Expr) and isinstance(node.value, ast.Constant)):
+            faults.append("L3 statement at the top")
+    faults += [f"L15 {name} is bound twice" for name in set(bound) if bound.count(name) > 1]
+    inner = [node for node in ast.walk(tree) if isinstance(node, (ast.ClassDef, ast.ImportFrom))]
+    faults += ["L2 or L15 not at the top" for node in inner if node not in tree.body]
+    return faults
+
+
+def faults_of_class(node):
+    methods = [part.name for part in node.body if isinstance(part, ast.FunctionDef)]
+    faults = [f"L18 method {name} stands twice" for name in set(methods) if methods.count(name) > 1]
+    for part in node.body:
+        if isinstance(part, ast.FunctionDef):
+            if part.name.startswith("__") and part.name != "__init__":
+                faults.append(f"L28 method {part.name}")
+            if part.name == "__init__" and any(isinstance(inner, ast.Return) for inner in ast.walk(part)):
+                faults.append("L28 __init__ gives something back")
+            if part.name in VALUES_OF_PYTHON and part.name not in OWN_METHODS | TWO_UNDERSCORES | {"add", "discard"}:
+                faults.append(f"L26 method {part.name}")
+    return faults
+
+
+def faults_of_form(node):
+    """What shows at one node by itself, beside what faults_of_expression sees."""
+    faults = []
+    if isinstance(node, ast.arguments) and not all(plain_value(part) for part in node.defaults):
+        faults.append("L4 default")
+    if getattr(node, "annotation", None) or getattr(node, "returns", None):
+        faults.append("L21 annotation")
+    if isinstance(node, ast.ClassDef):
+        faults += faults_of_class(node)
+    if isinstance(node, ast.Raise):
+        if not isinstance(node.exc, ast.Call):
+            faults.append("L19 error not made on the spot")
+    if isinstance(node, ast.ExceptHandler):
+        if not isinstance(node.type, ast.Name) or hasattr(builtins, node.type.id):
+            faults.append("L19 error of Python's own is taken")
+    if isinstance(node, ast.FormattedValue):
+        if not isinstance(node.value, ast.Name) or node.format_spec or node.conversion not in (-1, ord("r")):
+            faults.append("L7 f-string")
+    if isinstance(node, ast.BinOp) and isinstance(node.op, ast.Pow):
+        if not (isinstance(node.right, ast.Constant) and node.right.value in range(65)):
+            faults.append("L27 power")
+    if isinstance(node, ast.Constant) and isinstance(node.value, str) and "%" in node.value:
+        faults.append("L27 sign in a text")
+    if isinstance(node, ast.Attribute) and isinstance(node.ctx, ast.Store):
+        if not isinstance(node.value, ast.Name):
+            faults.append("L18 value not given through a local name")
+        if node.attr in VALUES_OF_PYTHON - VALUES_ALLOWED:
+            faults.append(f"L26 value {node.attr}")
+    if isinstance(node, ast.Name) and (node.id in NOT_AS_NAMES or FRAME_NAMES.match(node.id)):
+        faults.append(f"L17 name {node.id}")
+    if isinstance(node, ast.Attribute) and FRAME_NAMES.match(node.attr):
+        faults.append(f"L17 attribute {node.attr}")
+    return faults
+
+
+def as_key(node, above):
+    return isinstance(above, ast.keyword) and above.arg == "key" and above.value is node
+
+
+def faults_of_use(node, above, further, classes, methods):
+    """How a name of Python's own, a class or a method stands in what is above it, and above that."""
+    called = isinstance(above, ast.Call) and above.func is node
+    asked = [part for part in (above, further) if called_name(part) == "isinstance" and node is not part.func]
+    if isinstance(node, ast.Name) and isinstance(node.ctx, ast.Load):
+        if isinstance(above, ast.ClassDef) and node in above.bases:
+            return []
+        if isinstance(above, ast.ExceptHandler):
+            return []
+        if node.id in classes:
+            return [] if called or asked else [f"L18 class {node.id} is handed on"]
+        if node.id in OWN_NAMES and not called:
+            if not (as_key(node, above) and node.id in KEYS) and not (asked and node.id in KINDS_ASKED):
+                return [f"L22 {node.id} is kept"]
+    if isinstance(node, ast.Attribute) and isinstance(node.ctx, ast.Load):
+        if node.attr in OWN_METHODS | methods and not called and not as_key(node, above):
+            return [f"L25 method {node.attr} is handed on"]
+    return []
+
+
+def walked_things(node):
+    """What a loop walks: itself, or what stands in enumerate, zip, reversed, items and their like."""
+    if isinstance(node, ast.Call):
+        if called_name(node) in WALKED_METHODS and isinstance(node.func, ast.Attribute):
+            return [ast.unparse(node.func.value)]
+        if called_name(node) in ("enumerate", "zip", "reversed"):
+            return [thing for part in node.args for thing in walked_things(part)]
+        return []
+    return [ast.unparse(node)]
+
+
+def faults_of_loop(node):
+    walked = walked_things(node.iter)
+    for inner in [part for line in node.body for part in ast.walk(line)]:
+        changed = None
+        if isinstance(inner, ast.Call) and called_name(inner) in CHANGING and isinstance(inner.func, ast.Attribute):
+            changed = inner.func.value
+        if isinstance(inner, ast.Subscript) and isinstance(inner.ctx, ast.Store):
+            changed = inner.value
+        if isinstance(inner, ast.AugAssign):
+            changed = inner.target
+        if changed is not None and ast.unparse(changed) in walked:
+            return ["L23 what the loop walks is changed"]
+    return []
+
+
+def faults_of_lambdas(tree):
+    seen = [(n.lineno, ast.unparse(n.args)) for n in ast.walk(tree) if isinstance(n, ast.Lambda)]
+    return ["L13 lambdas"] if len(set(seen)) < len(seen) else []
+
+
+def faults_of_escapes(text):
+    faults = []
+    for token in tokenize.generate_tokens(io.StringIO(text).readline):
+        if token.type == tokenize.STRING:
+            if any(found not in "nt\\'\"" for found in re.findall(r"\\(.)", token.string, re.DOTALL)):
+                faults.append("L27 escape")
+    return faults
+
+
+def faults_of_forms(text, classes=(), methods=()):
+    """The rules that the walk of faults_of_code does not see."""
+    tree = ast.parse(text)
+    faults = faults_of_top(tree) + faults_of_lambdas(tree) + faults_of_escapes(text)
+    above = {node: upper for upper in ast.walk(tree) for node in ast.iter_child_nodes(upper)}
+    for node in ast.walk(tree):
+        found = faults_of_form(node)
+        found += faults_of_use(node, above.get(node), above.get(above.get(node)), set(classes), set(methods))
+        if isinstance(node, ast.For):
+            found += faults_of_loop(node)
+        faults += [f"{fault} (line {getattr(node, 'lineno', 1)})" for fault in found]
+    return faults
+
+
 def faults_of_tree(tree):
     """What shows only beside other parts of the same file."""
     faults = []
@@ -210,6 +384,16 @@ def values_of(texts):
     return {node.attr for node in nodes if isinstance(node, ast.Attribute) and isinstance(node.ctx, ast.Store)}
 
 
+def classes_of(texts):
+    nodes = [node for text in texts for node in ast.walk(ast.parse(text))]
+    return {node.name for node in nodes if isinstance(node, ast.ClassDef)}
+
+
+def bases_of(texts):
+    nodes = [node for text in texts for node in ast.walk(ast.parse(text))]
+    return {node.name: [base.id for base in node.bases] for node in nodes if isinstance(node, ast.ClassDef)}
+
+
 def defined_in(text):
     """The names that a file's top defines itself."""
     names = set()
@@ -234,7 +418,25 @@ class LanguageTest(unittest.TestCase):
             # Python itself may lay this one down while the tests run.
             if path.name != "__pycache__":
                 self.assertRegex(path.name, r"^(__init__|__main__|[a-z][a-z0-9_]*)\.py$")
+            self.assertNotIn(path.stem, FILE_NAMES_OUT)
+            self.assertFalse(path.stem.startswith("test_") or path.stem in vars(builtins), path.name)
         self.assertIn("__init__", self.texts)
+        self.assertEqual(PACKAGE.name, "tankbalance")
+
+    def test_forms(self):
+        texts = self.texts.values()
+        for name, text in self.texts.items():
+            with self.subTest(file=name):
+                self.assertEqual(faults_of_forms(text, classes_of(texts), methods_of(texts)), [])
+
+    def test_error_classes_stand_under_value_error(self):
+        bases = bases_of(self.texts.values())
+        for name, above in bases.items():
+            self.assertIn(above, ([], ["ValueError"], ["CellarError"]), name)
+
+    def test_init_binds_no_name_of_a_file(self):
+        self.assertEqual(defined_in(self.texts["__init__"]) & set(self.texts), set())
+        self.assertEqual(drawn_from(self.texts["__init__"]), [])
 
     def test_texts_and_code(self):
         own_methods = methods_of(self.texts.values())
@@ -261,6 +463,40 @@ class LanguageTest(unittest.TestCase):
         for name, reached in draws.items():
             self.assertNotIn(name, reached)
 
+    def assert_forms_seen(self):
+        wrong = (
+            "f()", "x = [1]", "x = {}", "x = f()", "x = 1\nx = 2", "def f():\n    class A:\n        pass",
+            "def f():\n    from tankbalance.days import Day", "class A:\n    def f(self):\n        pass\n"
+            "    def f(self):\n        pass", "class A:\n    def __eq__(self, other):\n        return True",
+            "class A:\n    def __init__(self):\n        return None", "class A:\n    def title(self):\n        pass",
+            "def f(a=[]):\n    pass", "def f(a: int):\n    pass", "def f() -> int:\n    pass",
+            "def f():\n    raise E", "def f():\n    raise", "def f():\n    try:\n        g()\n    except ValueError:\n"
+            "        pass", "def f():\n    try:\n        g()\n    except:\n        pass",
+            "def f(a):\n    return f'{a.b}'",
+            "def f(a):\n    return f'{a:3}'", "def f(n):\n    return 2 ** n", "def f():\n    return '5 % 3'",
+            "def f(a):\n    a.b.c = 1", "def f(a):\n    a.items = 1", "def f(a):\n    a.args = 1",
+            "def f():\n    return os", "def f(a):\n    return a.f_back", "def f():\n    return len",
+            "def f(a):\n    return sorted(a, key=repr)", "def f():\n    return A", "def f(a):\n    return a.append",
+            "def f(a):\n    return a.go", "def f(a):\n    for b in a:\n        a.append(b)",
+            "def f(a):\n    for k, b in enumerate(a):\n        a[k] = b", "def f(d):\n    for k, b in d.items():\n"
+            "        d.pop(k)", "def f():\n    return g(lambda a: 1, lambda a: 2)", "def f():\n    return '\\x41'",
+        )
+        for text in wrong:
+            with self.subTest(text=text):
+                self.assertNotEqual(faults_of_forms(text, ["A"], ["go"]), [])
+        right = (
+            "x = 1", "x = (1, ('a', None))", "x = -1", "def f(a=1, b=None):\n    pass", "def f():\n    raise E('a')",
+            "def f():\n    try:\n        g()\n    except E as e:\n        raise F('b') from e", "class A(B):\n    pass",
+            "def f(a):\n    return f'{a} {a!r}'", "def f(n):\n    return n ** 2", "def f(a):\n    a.b = 1",
+            "def f(a):\n    return sorted(a, key=len)", "def f():\n    return A()", "def f(a):\n    a.append(a.go())",
+            "def f(a):\n    return isinstance(a, A) or isinstance(a, (int, A))", "def f(a):\n    return a + '\\n'",
+            "def f(a):\n    for b in list(a):\n        a.remove(b)",
+            "def f(a):\n    return g(lambda a: 1, lambda b: 2)",
+        )
+        for text in right:
+            with self.subTest(text=text):
+                self.assertEqual(faults_of_forms(text, ["A"], ["go"]), [])
+
     def test_the_walk_sees_faults(self):
         wrong = (
             "import os", "from random import choice", "from tankbalance.places import *", "x = 1.5", "x = 3 / 2",
@@ -283,6 +519,7 @@ class LanguageTest(unittest.TestCase):
         for text in right:
             with self.subTest(text=text):
                 self.assertEqual(faults_of_code(text), [])
+        self.assert_forms_seen()
         for text in ("x" * 121, "a\tb", "caf\u00e9", "# a type", "# my_dataclass", "a\n" * 401):
             with self.subTest(text=text):
                 self.assertNotEqual(faults_of_text(text), [])
