@@ -1,8 +1,12 @@
 """The rules of LANGUAGE.md that a walk over the package's files can see.
 
 Some rules are held more narrowly than they are written: no list, dict or set stands at a file's top, no `try` takes
-an error of Python's own, no annotation is written, and of the methods with two underscores only `__init__`. How deep
-a recursion goes (L11) is held by reading.
+an error of Python's own, no annotation is written, and of the methods with two underscores only `__init__`.
+
+Held by reading alone, among others: how deep a recursion goes (L11); that an inner def does not assign what it
+reads from around it (L4); what follows `from` in a `raise` (L19); that `reverse` and `strict` are written out as True or
+False, and keywords at error classes (L22); changes through another name of what a loop walks (L23); where own methods
+called `items`, `keys` or `values` are walked (L26).
 """
 
 import ast
